@@ -9,94 +9,10 @@ import (
 
 	"besom/api"
 	"besom/bits"
+	"besom/sample"
 )
 
 const ones = math.MaxUint64
-
-// numbers are ints that no vector has as an index, or that a careless sum wraps round.
-var numbers = []int{math.MinInt, math.MinInt + 1, -4097, -65, -64, -1, 4097, 1 << 32, math.MaxInt - 1, math.MaxInt}
-
-// invalid vectors, each for a reason of its own.
-func invalid() []api.Bits {
-	return []api.Bits{
-		{N: -1},
-		{N: -1, W: []uint64{0}},
-		{N: -64},
-		{N: -64, W: []uint64{0}},
-		{N: math.MinInt},
-		{N: math.MaxInt},
-		{N: 1},
-		{N: 0, W: []uint64{0}},
-		{N: 1, W: []uint64{0, 0}},
-		{N: 64},
-		{N: 64, W: []uint64{0, 0}},
-		{N: 65, W: []uint64{0}},
-		{N: 70, W: []uint64{0, 0, 0}},
-		{N: 1, W: []uint64{2}},
-		{N: 4, W: []uint64{16}},
-		{N: 4, W: []uint64{1 << 63}},
-		{N: 63, W: []uint64{1 << 63}},
-		{N: 65, W: []uint64{0, 2}},
-		{N: 70, W: []uint64{0, 1 << 6}},
-		{N: 70, W: []uint64{0, 1 << 63}},
-		{N: 4095, W: append(make([]uint64, 63), 1<<63)},
-		{N: 4097, W: make([]uint64, 65)},
-		{N: 4160, W: make([]uint64, 65)},
-		{N: 4096, W: make([]uint64, 63)},
-		{N: 4096, W: make([]uint64, 65)},
-	}
-}
-
-// pack builds a vector by the chapter's words alone, without the package.
-func pack(l []bool) api.Bits {
-	b := api.Bits{N: len(l), W: make([]uint64, (len(l)+63)/64)}
-	for i, v := range l {
-		if v {
-			b.W[i/64] += 1 << (i % 64)
-		}
-	}
-	return b
-}
-
-func unpack(b api.Bits) []bool {
-	l := make([]bool, b.N)
-	for i := range l {
-		l[i] = b.W[i/64]>>(i%64)%2 == 1
-	}
-	return l
-}
-
-// samples are vectors of some sizes, in several patterns each.
-func samples(sizes ...int) [][]bool {
-	state := uint64(1)
-	patterns := []func(i int) bool{
-		func(i int) bool { return false },
-		func(i int) bool { return true },
-		func(i int) bool { return i%2 == 0 },
-		func(i int) bool { return i%7 == 3 },
-		func(i int) bool { return i/5%2 == 1 },
-		func(i int) bool { return i < 60 || i >= 66 },
-		func(i int) bool {
-			state = state*6364136223846793005 + 1442695040888963407
-			return state>>33%3 == 0
-		},
-	}
-	var out [][]bool
-	for _, n := range sizes {
-		for _, p := range patterns {
-			l := make([]bool, n)
-			for i := range l {
-				l[i] = p(i)
-			}
-			out = append(out, l)
-		}
-	}
-	return out
-}
-
-func same(a, b api.Bits) bool {
-	return a.N == b.N && slices.Equal(a.W, b.W)
-}
 
 func empty(b api.Bits) bool {
 	return b.N == 0 && len(b.W) == 0
@@ -130,7 +46,7 @@ func TestCheck(t *testing.T) {
 			t.Errorf("valid vector %d: error %d", i, why)
 		}
 	}
-	for i, b := range invalid() {
+	for i, b := range sample.BadBits() {
 		if why := bits.Check(b); why != api.ErrForm {
 			t.Errorf("invalid vector %d: error %d", i, why)
 		}
@@ -140,11 +56,11 @@ func TestCheck(t *testing.T) {
 func TestMake(t *testing.T) {
 	for _, n := range []int{0, 1, 2, 63, 64, 65, 70, 127, 128, 129, 4095, 4096} {
 		b, why := bits.Make(n)
-		if why != api.OK || !same(b, pack(make([]bool, n))) {
+		if why != api.OK || !sample.SameBits(b, sample.Pack(make([]bool, n))) {
 			t.Errorf("Make(%d): %v, error %d", n, b, why)
 		}
 	}
-	for _, n := range numbers {
+	for _, n := range sample.Ints() {
 		if b, why := bits.Make(n); why != api.ErrRange || !empty(b) {
 			t.Errorf("Make(%d): %v, error %d", n, b, why)
 		}
@@ -161,7 +77,7 @@ func TestChapterVectorIsMadeByPut(t *testing.T) {
 			t.Error("Put:", i, why)
 		}
 	}
-	if !same(b, chapter()) {
+	if !sample.SameBits(b, chapter()) {
 		t.Error(b)
 	}
 	if v, why := bits.Get(b, 3); !v || why != api.OK {
@@ -170,14 +86,14 @@ func TestChapterVectorIsMadeByPut(t *testing.T) {
 }
 
 func TestGet(t *testing.T) {
-	for _, l := range samples(0, 1, 2, 63, 64, 65, 70, 128, 4096) {
-		b := pack(l)
+	for _, l := range sample.Patterns(0, 1, 2, 63, 64, 65, 70, 128, 4096) {
+		b := sample.Pack(l)
 		for i := range l {
 			if v, why := bits.Get(b, i); v != l[i] || why != api.OK {
 				t.Fatalf("Get(%v, %d): %t, error %d", b, i, v, why)
 			}
 		}
-		for _, i := range append(numbers, len(l), len(l)+1) {
+		for _, i := range append(sample.Ints(), len(l), len(l)+1) {
 			if v, why := bits.Get(b, i); v || why != api.ErrRange {
 				t.Fatalf("Get(%v, %d): %t, error %d", b, i, v, why)
 			}
@@ -186,17 +102,17 @@ func TestGet(t *testing.T) {
 }
 
 func TestPut(t *testing.T) {
-	for _, l := range samples(0, 1, 2, 63, 64, 65, 70, 128, 4096) {
+	for _, l := range sample.Patterns(0, 1, 2, 63, 64, 65, 70, 128, 4096) {
 		for _, v := range []bool{true, false} {
 			for i := range l {
 				want := slices.Clone(l)
 				want[i] = v
-				if c, why := bits.Put(pack(l), i, v); why != api.OK || !same(c, pack(want)) {
+				if c, why := bits.Put(sample.Pack(l), i, v); why != api.OK || !sample.SameBits(c, sample.Pack(want)) {
 					t.Fatalf("Put of %d bits, %d, %t: %v, error %d", len(l), i, v, c, why)
 				}
 			}
-			for _, i := range append(numbers, len(l), len(l)+1) {
-				if c, why := bits.Put(pack(l), i, v); why != api.ErrRange || !same(c, pack(l)) {
+			for _, i := range append(sample.Ints(), len(l), len(l)+1) {
+				if c, why := bits.Put(sample.Pack(l), i, v); why != api.ErrRange || !sample.SameBits(c, sample.Pack(l)) {
 					t.Fatalf("Put of %d bits, %d, %t: %v, error %d", len(l), i, v, c, why)
 				}
 			}
@@ -206,8 +122,8 @@ func TestPut(t *testing.T) {
 
 func TestInvalidComesFirst(t *testing.T) {
 	good := chapter()
-	for i, b := range invalid() {
-		for _, n := range append(numbers, 0, 1, 64, 70) {
+	for i, b := range sample.BadBits() {
+		for _, n := range append(sample.Ints(), 0, 1, 64, 70) {
 			for _, v := range []bool{true, false} {
 				name := "vector " + strconv.Itoa(i) + ", " + strconv.Itoa(n)
 				if x, why := bits.Get(b, n); x || why != api.ErrForm {
@@ -242,7 +158,7 @@ func TestInvalidComesFirst(t *testing.T) {
 // 1.2
 
 func TestFill(t *testing.T) {
-	for _, l := range samples(0, 1, 2, 64, 65, 70, 129) {
+	for _, l := range sample.Patterns(0, 1, 2, 64, 65, 70, 129) {
 		for _, v := range []bool{true, false} {
 			for from := 0; from <= len(l); from++ {
 				for n := 0; n <= len(l)-from; n++ {
@@ -250,29 +166,29 @@ func TestFill(t *testing.T) {
 					for i := range n {
 						want[from+i] = v
 					}
-					if c, why := bits.Fill(pack(l), from, n, v); why != api.OK || !same(c, pack(want)) {
+					if c, why := bits.Fill(sample.Pack(l), from, n, v); why != api.OK || !sample.SameBits(c, sample.Pack(want)) {
 						t.Fatalf("Fill of %d bits, %d, %d, %t: %v, error %d", len(l), from, n, v, c, why)
 					}
 				}
 			}
 		}
 	}
-	c, why := bits.Fill(pack(make([]bool, 4096)), 0, 4096, true)
-	if why != api.OK || !same(c, api.Bits{N: 4096, W: slices.Repeat([]uint64{ones}, 64)}) {
+	c, why := bits.Fill(sample.Pack(make([]bool, 4096)), 0, 4096, true)
+	if why != api.OK || !sample.SameBits(c, api.Bits{N: 4096, W: slices.Repeat([]uint64{ones}, 64)}) {
 		t.Error("Fill of 4096 bits: error", why)
 	}
 }
 
 func TestFillOutOfRange(t *testing.T) {
-	for _, l := range samples(0, 1, 64, 70) {
+	for _, l := range sample.Patterns(0, 1, 64, 70) {
 		size := len(l)
 		wrong := [][2]int{{size, 1}, {0, size + 1}, {size + 1, 0}, {size + 1, -1}, {size, -1}, {-1, 0}, {-1, 1}, {-1, 2}, {-1, size}, {0, -1}, {1, -1}, {1, size}}
-		for _, n := range numbers {
+		for _, n := range sample.Ints() {
 			wrong = append(wrong, [2]int{n, 0}, [2]int{0, n}, [2]int{n, n}, [2]int{n, 1}, [2]int{n, -n}, [2]int{size, n}, [2]int{n, math.MaxInt}, [2]int{n, math.MinInt}, [2]int{n, size - n})
 		}
 		for _, x := range wrong {
 			for _, v := range []bool{true, false} {
-				if c, why := bits.Fill(pack(l), x[0], x[1], v); why != api.ErrRange || !same(c, pack(l)) {
+				if c, why := bits.Fill(sample.Pack(l), x[0], x[1], v); why != api.ErrRange || !sample.SameBits(c, sample.Pack(l)) {
 					t.Errorf("Fill of %d bits, %d, %d, %t: %v, error %d", size, x[0], x[1], v, c, why)
 				}
 			}
@@ -281,33 +197,33 @@ func TestFillOutOfRange(t *testing.T) {
 }
 
 func TestCount(t *testing.T) {
-	for _, l := range samples(0, 1, 2, 63, 64, 65, 70, 128, 4095, 4096) {
+	for _, l := range sample.Patterns(0, 1, 2, 63, 64, 65, 70, 128, 4095, 4096) {
 		want := 0
 		for _, v := range l {
 			if v {
 				want++
 			}
 		}
-		if n, why := bits.Count(pack(l)); n != want || why != api.OK {
+		if n, why := bits.Count(sample.Pack(l)); n != want || why != api.OK {
 			t.Errorf("Count of %d bits: %d, error %d; want %d", len(l), n, why, want)
 		}
 	}
 }
 
 func TestFirst(t *testing.T) {
-	for _, l := range samples(0, 1, 2, 63, 64, 65, 70, 129, 200) {
+	for _, l := range sample.Patterns(0, 1, 2, 63, 64, 65, 70, 129, 200) {
 		for _, v := range []bool{true, false} {
 			for from := 0; from <= len(l); from++ {
 				at, none := 0, api.ErrNone
 				if i := slices.Index(l[from:], v); i >= 0 {
 					at, none = from+i, api.OK
 				}
-				if i, why := bits.First(pack(l), from, v); i != at || why != none {
+				if i, why := bits.First(sample.Pack(l), from, v); i != at || why != none {
 					t.Fatalf("First of %d bits, %d, %t: %d, error %d; want %d, %d", len(l), from, v, i, why, at, none)
 				}
 			}
-			for _, from := range append(numbers, len(l)+1, len(l)+64) {
-				if i, why := bits.First(pack(l), from, v); i != 0 || why != api.ErrRange {
+			for _, from := range append(sample.Ints(), len(l)+1, len(l)+64) {
+				if i, why := bits.First(sample.Pack(l), from, v); i != 0 || why != api.ErrRange {
 					t.Fatalf("First of %d bits, %d, %t: %d, error %d", len(l), from, v, i, why)
 				}
 			}
@@ -321,7 +237,7 @@ func zeros(l []bool, from, n int) bool {
 }
 
 func TestRun(t *testing.T) {
-	for _, l := range samples(0, 1, 2, 63, 64, 65, 70, 129, 200) {
+	for _, l := range sample.Patterns(0, 1, 2, 63, 64, 65, 70, 129, 200) {
 		for n := 1; n <= len(l)+2; n++ {
 			at, none := 0, api.ErrNone
 			for i := range l {
@@ -330,34 +246,34 @@ func TestRun(t *testing.T) {
 					break
 				}
 			}
-			if i, why := bits.Run(pack(l), n); i != at || why != none {
+			if i, why := bits.Run(sample.Pack(l), n); i != at || why != none {
 				t.Fatalf("Run of %d bits, %d: %d, error %d; want %d, %d", len(l), n, i, why, at, none)
 			}
 		}
-		for _, n := range append(numbers, 0) {
+		for _, n := range append(sample.Ints(), 0) {
 			want := api.ErrRange
 			if n > 0 {
 				want = api.ErrNone
 			}
-			if i, why := bits.Run(pack(l), n); i != 0 || why != want {
+			if i, why := bits.Run(sample.Pack(l), n); i != 0 || why != want {
 				t.Fatalf("Run of %d bits, %d: %d, error %d", len(l), n, i, why)
 			}
 		}
 	}
-	if i, why := bits.Run(pack(make([]bool, 4096)), 4096); i != 0 || why != api.OK {
+	if i, why := bits.Run(sample.Pack(make([]bool, 4096)), 4096); i != 0 || why != api.OK {
 		t.Error("Run of 4096 bits:", i, why)
 	}
 }
 
 func TestBoth(t *testing.T) {
 	for _, n := range []int{0, 1, 2, 64, 65, 70, 129, 4096} {
-		for _, a := range samples(n) {
-			for _, b := range samples(n) {
+		for _, a := range sample.Patterns(n) {
+			for _, b := range sample.Patterns(n) {
 				want := make([]bool, n)
 				for i := range want {
 					want[i] = a[i] && b[i]
 				}
-				if c, why := bits.Both(pack(a), pack(b)); why != api.OK || !same(c, pack(want)) {
+				if c, why := bits.Both(sample.Pack(a), sample.Pack(b)); why != api.OK || !sample.SameBits(c, sample.Pack(want)) {
 					t.Fatalf("Both of %d bits: %v, error %d", n, c, why)
 				}
 			}
@@ -367,7 +283,7 @@ func TestBoth(t *testing.T) {
 
 func TestBothOfDifferentLengths(t *testing.T) {
 	for _, x := range [][2]int{{0, 1}, {1, 0}, {69, 70}, {70, 69}, {64, 65}, {128, 64}, {1, 4096}} {
-		a, b := pack(make([]bool, x[0])), pack(make([]bool, x[1]))
+		a, b := sample.Pack(make([]bool, x[0])), sample.Pack(make([]bool, x[1]))
 		if c, why := bits.Both(a, b); !empty(c) || why != api.ErrForm {
 			t.Errorf("Both of %d and %d bits: %v, error %d", x[0], x[1], c, why)
 		}
@@ -462,13 +378,13 @@ func TestNewMemory(t *testing.T) {
 		a := api.Bits{N: 70, W: append(slices.Clone(chapter().W), 99)[:2]}
 		b := api.Bits{N: 70, W: []uint64{1<<63 | 3, 1}}
 		first := call(a, b)
-		if !same(a, chapter()) || a.W[:3][2] != 99 || b.W[0] != 1<<63|3 || b.W[1] != 1 {
+		if !sample.SameBits(a, chapter()) || a.W[:3][2] != 99 || b.W[0] != 1<<63|3 || b.W[1] != 1 {
 			t.Error(name, "changes an argument")
 		}
 		second := call(a, b)
 		kept := slices.Clone(second.W)
 		flip(first.W)
-		if !same(a, chapter()) || b.W[0] != 1<<63|3 || b.W[1] != 1 {
+		if !sample.SameBits(a, chapter()) || b.W[0] != 1<<63|3 || b.W[1] != 1 {
 			t.Error(name, "answers an argument's memory")
 		}
 		if !slices.Equal(second.W, kept) {
@@ -489,7 +405,7 @@ func TestReadersChangeNothing(t *testing.T) {
 	bits.Count(b)
 	bits.First(b, 0, false)
 	bits.Run(b, 3)
-	if !same(b, chapter()) {
+	if !sample.SameBits(b, chapter()) {
 		t.Error(b)
 	}
 }
@@ -497,10 +413,10 @@ func TestReadersChangeNothing(t *testing.T) {
 // 1.4
 
 func TestOneBit(t *testing.T) {
-	for _, l := range samples(1, 64, 70, 130) {
+	for _, l := range sample.Patterns(1, 64, 70, 130) {
 		for i := range l {
 			for _, v := range []bool{true, false} {
-				c, _ := bits.Put(pack(l), i, v)
+				c, _ := bits.Put(sample.Pack(l), i, v)
 				for j := range l {
 					want := l[j]
 					if j == i {
@@ -518,8 +434,8 @@ func TestOneBit(t *testing.T) {
 // 1.5
 
 func TestCounted(t *testing.T) {
-	for _, l := range samples(1, 64, 70, 4096) {
-		before, _ := bits.Count(pack(l))
+	for _, l := range sample.Patterns(1, 64, 70, 4096) {
+		before, _ := bits.Count(sample.Pack(l))
 		for i := range l {
 			for _, v := range []bool{true, false} {
 				want := before
@@ -529,7 +445,7 @@ func TestCounted(t *testing.T) {
 				if !v && l[i] {
 					want--
 				}
-				c, _ := bits.Put(pack(l), i, v)
+				c, _ := bits.Put(sample.Pack(l), i, v)
 				if n, why := bits.Count(c); n != want || why != api.OK {
 					t.Fatalf("Count after Put(%d, %t): %d, error %d; want %d", i, v, n, why, want)
 				}
@@ -541,9 +457,9 @@ func TestCounted(t *testing.T) {
 // 1.6
 
 func TestRunIsFirst(t *testing.T) {
-	for _, l := range samples(1, 64, 70, 200, 4096) {
+	for _, l := range sample.Patterns(1, 64, 70, 200, 4096) {
 		for _, n := range []int{1, 2, 3, 4, 5, 6, 7, 63, 64, 65, 200, 4096} {
-			at, why := bits.Run(pack(l), n)
+			at, why := bits.Run(sample.Pack(l), n)
 			if why == api.OK && !zeros(l, at, n) {
 				t.Errorf("Run of %d bits, %d: %d, where not all are 0", len(l), n, at)
 			}
@@ -594,10 +510,10 @@ func TestArgumentsAlone(t *testing.T) {
 	roomy := api.Bits{N: 70, W: append(make([]uint64, 0, 64), chapter().W...)}
 	for name, call := range calls() {
 		want := call(chapter(), chapter())
-		if got := call(roomy, chapter()); !same(got, want) {
+		if got := call(roomy, chapter()); !sample.SameBits(got, want) {
 			t.Error(name, "of roomy words:", got, want)
 		}
-		if got := call(chapter(), roomy); !same(got, want) {
+		if got := call(chapter(), roomy); !sample.SameBits(got, want) {
 			t.Error(name, "once more:", got, want)
 		}
 	}
