@@ -454,7 +454,8 @@ func TestNoGoroutine(t *testing.T) {
 	}
 	arena.Load(chapter(), 1)
 	arena.Sum(chapter(), 1, 4, 4)
-	if after := runtime.NumGoroutine(); after != before {
+	// Fewer are no fault: the goroutine of an earlier test may have ended meanwhile.
+	if after := runtime.NumGoroutine(); after > before {
 		t.Errorf("%d goroutines, and %d before", after, before)
 	}
 }

@@ -528,7 +528,8 @@ func TestNoGoroutine(t *testing.T) {
 	bits.Count(chapter())
 	bits.First(chapter(), 0, true)
 	bits.Run(chapter(), 3)
-	if after := runtime.NumGoroutine(); after != before {
+	// Fewer are no fault: the goroutine of an earlier test may have ended meanwhile.
+	if after := runtime.NumGoroutine(); after > before {
 		t.Errorf("%d goroutines, and %d before", after, before)
 	}
 }

@@ -253,7 +253,8 @@ func TestNoGoroutine(t *testing.T) {
 	class.Slots(1)
 	class.Pages(17)
 	class.Waste(1, 3, 16, 49)
-	if after := runtime.NumGoroutine(); after != before {
+	// Fewer are no fault: the goroutine of an earlier test may have ended meanwhile.
+	if after := runtime.NumGoroutine(); after > before {
 		t.Errorf("%d goroutines, and %d before", after, before)
 	}
 }

@@ -228,7 +228,8 @@ func TestNoGoroutine(t *testing.T) {
 	ephem.Check(chapter())
 	ephem.Get(chapter(), 3)
 	ephem.Home(3, 16)
-	if after := runtime.NumGoroutine(); after != before {
+	// Fewer are no fault: the goroutine of an earlier test may have ended meanwhile.
+	if after := runtime.NumGoroutine(); after > before {
 		t.Errorf("%d goroutines, and %d before", after, before)
 	}
 }

@@ -338,7 +338,8 @@ func TestNoGoroutine(t *testing.T) {
 		head.Refs(s, 0, 1, 2)
 		head.Next(s, 0)
 	}
-	if after := runtime.NumGoroutine(); after != before {
+	// Fewer are no fault: the goroutine of an earlier test may have ended meanwhile.
+	if after := runtime.NumGoroutine(); after > before {
 		t.Errorf("%d goroutines, and %d before", after, before)
 	}
 }

@@ -252,7 +252,8 @@ func TestNoGoroutine(t *testing.T) {
 	heap.At(busy(), 16)
 	heap.Load(busy(), 16, 0)
 	heap.Marked(busy(), 16)
-	if after := runtime.NumGoroutine(); after != before {
+	// Fewer are no fault: the goroutine of an earlier test may have ended meanwhile.
+	if after := runtime.NumGoroutine(); after > before {
 		t.Errorf("%d goroutines, and %d before", after, before)
 	}
 }

@@ -457,7 +457,8 @@ func TestNoGoroutine(t *testing.T) {
 	pages.Check(mixed())
 	pages.Free(mixed())
 	pages.Longest(mixed())
-	if after := runtime.NumGoroutine(); after != before {
+	// Fewer are no fault: the goroutine of an earlier test may have ended meanwhile.
+	if after := runtime.NumGoroutine(); after > before {
 		t.Errorf("%d goroutines, and %d before", after, before)
 	}
 }

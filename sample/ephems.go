@@ -84,14 +84,14 @@ func Ephems() []api.Ephem {
 		Without(Ephem(16, large...), large[1:4]...),
 		Ephem(16, late...),
 		Without(Ephem(16, late...), late[0], late[4], late[11]),
-		Ephem(32, rising(1, 24)...),
-		Without(Ephem(32, rising(1, 24)...), rising(3, 20)...),
-		Ephem(64, rising(1, 48)...),
-		Ephem(64, rising(1, 47)...),
-		Without(Ephem(64, rising(1, 48)...), 5),
-		Without(Ephem(64, rising(1, 48)...), rising(10, 17)...),
-		Without(Ephem(64, rising(1, 48)...), rising(1, 16)...),
-		Without(Ephem(64, rising(1, 48)...), rising(1, 48)...),
+		Ephem(32, Rising(1, 24)...),
+		Without(Ephem(32, Rising(1, 24)...), Rising(3, 20)...),
+		Ephem(64, Rising(1, 48)...),
+		Ephem(64, Rising(1, 47)...),
+		Without(Ephem(64, Rising(1, 48)...), 5),
+		Without(Ephem(64, Rising(1, 48)...), Rising(10, 17)...),
+		Without(Ephem(64, Rising(1, 48)...), Rising(1, 16)...),
+		Without(Ephem(64, Rising(1, 48)...), Rising(1, 48)...),
 		Without(Ephem(64, KeysAt(63, 64, 1, 48)...), KeysAt(63, 64, 1, 20)...),
 	}
 }
@@ -151,7 +151,7 @@ func fullEphems() []api.Ephem {
 	var bad []api.Ephem
 	for _, n := range []int{8, 16, 32, 64} {
 		for _, free := range []int{0, 1, n/4 - 1} {
-			keys := rising(1, n-free)
+			keys := Rising(1, n-free)
 			full := Ephem(n, keys...)
 			bad = append(bad, full, Without(full, keys[n/2:]...), Without(full, keys...))
 		}

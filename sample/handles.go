@@ -5,8 +5,8 @@ import (
 	"slices"
 )
 
-// rising returns n numbers, from first on.
-func rising(first uint64, n int) []uint64 {
+// Rising returns n numbers, from first on.
+func Rising(first uint64, n int) []uint64 {
 	out := make([]uint64, n)
 	for i := range out {
 		out[i] = first + uint64(i)
@@ -16,7 +16,7 @@ func rising(first uint64, n int) []uint64 {
 
 // WeakTables returns valid tables of weak handles.
 func WeakTables() [][]uint64 {
-	full := rising(16, 64)
+	full := Rising(16, 64)
 	holes := slices.Clone(full)
 	for i := 0; i < len(holes); i += 3 {
 		holes[i] = 0
@@ -44,7 +44,7 @@ func WeakTables() [][]uint64 {
 
 // BadWeakTables returns tables of weak handles that are not valid, each for a reason of its own.
 func BadWeakTables() [][]uint64 {
-	full := rising(1, 64)
+	full := Rising(1, 64)
 	ends := slices.Clone(full)
 	ends[63] = ends[0]
 	return [][]uint64{
@@ -60,6 +60,6 @@ func BadWeakTables() [][]uint64 {
 		append(full, 1),
 		make([]uint64, 65),
 		make([]uint64, 128),
-		rising(1, 1000),
+		Rising(1, 1000),
 	}
 }

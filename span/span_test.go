@@ -637,7 +637,8 @@ func TestNoGoroutine(t *testing.T) {
 	span.Check(full(2, 3)...)
 	span.Find(full(2, 3), 16000)
 	span.Room(full(2, 3), 16)
-	if after := runtime.NumGoroutine(); after != before {
+	// Fewer are no fault: the goroutine of an earlier test may have ended meanwhile.
+	if after := runtime.NumGoroutine(); after > before {
 		t.Errorf("%d goroutines, and %d before", after, before)
 	}
 }

@@ -471,7 +471,8 @@ func TestNoGoroutine(t *testing.T) {
 	}
 	special.Check(chapter())
 	special.Addrs(chapter(), final)
-	if after := runtime.NumGoroutine(); after != before {
+	// Fewer are no fault: the goroutine of an earlier test may have ended meanwhile.
+	if after := runtime.NumGoroutine(); after > before {
 		t.Errorf("%d goroutines, and %d before", after, before)
 	}
 }

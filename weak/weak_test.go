@@ -512,7 +512,8 @@ func TestNoGoroutine(t *testing.T) {
 	weak.Check(chapter())
 	weak.Get(chapter(), 2)
 	weak.Handle(chapter(), 20)
-	if after := runtime.NumGoroutine(); after != before {
+	// Fewer are no fault: the goroutine of an earlier test may have ended meanwhile.
+	if after := runtime.NumGoroutine(); after > before {
 		t.Errorf("%d goroutines, and %d before", after, before)
 	}
 }
