@@ -1,0 +1,38 @@
+// Package plain copies values of package api, and reads those that a layer has found valid.
+package plain
+
+import (
+	"slices"
+
+	"besom/api"
+)
+
+// Heap returns a copy with memory of its own.
+func Heap(h api.Heap) api.Heap {
+	h.Arena.Words = slices.Clone(h.Arena.Words)
+	h.Pages.Used.W = slices.Clone(h.Pages.Used.W)
+	h.Spans = slices.Clone(h.Spans)
+	for i := range h.Spans {
+		s := &h.Spans[i]
+		s.Alloc.W = slices.Clone(s.Alloc.W)
+		s.Mark.W = slices.Clone(s.Mark.W)
+	}
+	return h
+}
+
+// Grey returns a copy each of whose queues has memory of its own.
+func Grey(g api.Grey) api.Grey {
+	g.Queues = slices.Clone(g.Queues)
+	for i, q := range g.Queues {
+		g.Queues[i] = slices.Clone(q)
+	}
+	return g
+}
+
+// Marker returns a copy with memory of its own.
+func Marker(m api.Marker) api.Marker {
+	m.Heap = Heap(m.Heap)
+	m.Grey = Grey(m.Grey)
+	m.Hands = slices.Clone(m.Hands)
+	return m
+}
