@@ -36,3 +36,13 @@ func Marker(m api.Marker) api.Marker {
 	m.Hands = slices.Clone(m.Hands)
 	return m
 }
+
+// Gc returns a copy with memory of its own.
+func Gc(g api.Gc) api.Gc {
+	g.Marker = Marker(g.Marker)
+	g.Table.Slots = slices.Clone(g.Table.Slots)
+	g.Specials = slices.Clone(g.Specials)
+	g.Weak = slices.Clone(g.Weak)
+	g.Queue = slices.Clone(g.Queue)
+	return g
+}
