@@ -46,3 +46,13 @@ func Gc(g api.Gc) api.Gc {
 	g.Queue = slices.Clone(g.Queue)
 	return g
 }
+
+// Runtime returns a copy with memory of its own.
+func Runtime(r api.Runtime) api.Runtime {
+	r.Gc = Gc(r.Gc)
+	r.Mutators = slices.Clone(r.Mutators)
+	for i := range r.Mutators {
+		r.Mutators[i].Regs = slices.Clone(r.Mutators[i].Regs)
+	}
+	return r
+}

@@ -12,6 +12,16 @@ func Gc(phase api.Phase, m api.Marker) api.Gc {
 	return api.Gc{Phase: phase, Marker: CopyMarker(m)}
 }
 
+// BareGcs returns a collected heap in that phase, with nothing in it and beside it, twice: with nil lists, and with empty ones.
+func BareGcs(phase api.Phase) (api.Gc, api.Gc) {
+	m := Off(Heap(3, nil), 1)
+	m.On = phase == api.PhaseMark || phase == api.PhaseLate
+	nils, empties := Gc(phase, m), Gc(phase, m)
+	empties.Marker.Heap.Spans, empties.Marker.Grey.Queues[0] = []api.Span{}, []uint64{}
+	empties.Table.Slots, empties.Specials, empties.Weak, empties.Queue = []api.EphSlot{}, []api.Special{}, []uint64{}, []api.Item{}
+	return nils, empties
+}
+
 // CopyGc returns the collected heap with memory of its own.
 func CopyGc(g api.Gc) api.Gc {
 	g.Marker = CopyMarker(g.Marker)

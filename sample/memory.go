@@ -29,6 +29,24 @@ func SpoilsOfGc(g api.Gc) []func() {
 	return out
 }
 
+// SpoilsOfRuntime returns functions each of which changes one list of a runtime, and all that lies behind its end.
+func SpoilsOfRuntime(r api.Runtime) []func() {
+	out := append(SpoilsOfGc(r.Gc), spoil(r.Mutators, func(m *api.Mutator) { m.Scanned = !m.Scanned }))
+	for _, m := range r.Mutators {
+		out = append(out, spoil(m.Regs, func(reg *api.Reg) { reg.W += 1000 }))
+	}
+	return out
+}
+
+// SpoilsOfRan returns functions each of which changes one list of what was run, and all that lies behind its end.
+func SpoilsOfRan(l []api.Ran) []func() {
+	out := []func(){spoil(l, func(x *api.Ran) { x.Item.Tag += 1000 })}
+	for _, x := range l {
+		out = append(out, SpoilWords(x.Fields))
+	}
+	return out
+}
+
 // SpoilWords returns a function that changes a list, and all that lies behind its end.
 func SpoilWords(l []uint64) func() {
 	return spoil(l, func(w *uint64) { *w += 1000 })
@@ -66,6 +84,23 @@ func RoomyGc(g api.Gc) (api.Gc, func() bool) {
 	}
 }
 
+// RoomyRuntime returns a runtime in such memory, and a function that reports whether what lies behind its lists is as it was.
+func RoomyRuntime(r api.Runtime) (api.Runtime, func() bool) {
+	r = CopyRuntime(r)
+	g, rest := RoomyGc(r.Gc)
+	r.Gc = g
+	rests := []func() bool{rest}
+	for i := range r.Mutators {
+		rests = append(rests, extend(&r.Mutators[i].Regs, Num(77)))
+	}
+	rests = append(rests, extendBy(&r.Mutators, Scanned(Mutator(Num(77))), func(m api.Mutator) bool {
+		return m.Scanned && slices.Equal(m.Regs, Mutator(Num(77)).Regs)
+	}))
+	return r, func() bool {
+		return !slices.ContainsFunc(rests, func(rest func() bool) bool { return !rest() })
+	}
+}
+
 // extend puts an element behind the end of a list, and returns a function that reports whether it is there still.
 func extend[T comparable](l *[]T, x T) func() bool {
 	return extendBy(l, x, func(y T) bool { return x == y })
@@ -94,6 +129,17 @@ func WovenGcs() []api.Gc {
 			g.Marker.Grey.Queues = [][]uint64{line[:1], line[1:]}
 			out = append(out, g)
 		}
+	}
+	return out
+}
+
+// WovenRuntimes returns valid runtimes whose lists share memory, in each phase.
+func WovenRuntimes() []api.Runtime {
+	var out []api.Runtime
+	for _, g := range WovenGcs() {
+		m := Mutator(Ref(16), Ref(18), Ref(16), Num(1))
+		m.Scanned = g.Marker.On
+		out = append(out, api.Runtime{Gc: g, Mutators: []api.Mutator{m, m, m}})
 	}
 	return out
 }
