@@ -56,3 +56,19 @@ func Runtime(r api.Runtime) api.Runtime {
 	}
 	return r
 }
+
+// Ran returns a copy whose fields have memory of their own.
+func Ran(x api.Ran) api.Ran {
+	x.Fields = slices.Clone(x.Fields)
+	return x
+}
+
+// World returns a copy with memory of its own.
+func World(w api.World) api.World {
+	w.Runtime = Runtime(w.Runtime)
+	w.Ran = slices.Clone(w.Ran)
+	for i, x := range w.Ran {
+		w.Ran[i] = Ran(x)
+	}
+	return w
+}

@@ -59,6 +59,18 @@ func Marked(h api.Heap) []uint64 {
 	return out
 }
 
+// Shaded returns the marker, which is On, after these objects were shaded with worker 0, in order. It passes over 0.
+func Shaded(m api.Marker, addrs ...uint64) api.Marker {
+	m = CopyMarker(m)
+	for _, addr := range addrs {
+		if marked := Marked(m.Heap); addr != 0 && !slices.Contains(marked, addr) {
+			m.Heap = Marks(m.Heap, append(marked, addr)...)
+			m.Grey.Queues[0] = append(m.Grey.Queues[0], addr)
+		}
+	}
+	return m
+}
+
 // AllSwept returns the heap with all spans Swept.
 func AllSwept(h api.Heap) api.Heap {
 	h = CopyHeap(h)

@@ -92,6 +92,25 @@ func Runtimes() []api.Runtime {
 	return out
 }
 
+// SmallRuntimes returns those of Runtimes that a test may try again and again.
+func SmallRuntimes() []api.Runtime {
+	return slices.DeleteFunc(Runtimes(), func(r api.Runtime) bool { return len(r.Gc.Marker.Heap.Spans) > 100 })
+}
+
+// BusyRuntime is in PhaseMark, with something of all kinds: one mutator of three is Scanned, and the others refer to white objects, some of them twice.
+func BusyRuntime() api.Runtime {
+	g := SixMarked(api.PhaseMark, 16, 22, 24)
+	g.Marker = On(g.Marker.Heap, []api.Hand{{}, {Obj: 24, Field: 1}}, []uint64{16})
+	g.Table = Without(Pairs(16, 16, 18, 20, 26, 24, 0, 26, 20), 16)
+	g.Specials = []api.Special{Cleanup(16, 1), Final(16, 2), Cleanup(20, 3), Final(22, 5), Cleanup(26, 6)}
+	g.Weak = []uint64{16, 0, 26}
+	g.Queue = []api.Item{FinalItem(22, 7), CleanItem(9), FinalItem(24, 8), FinalItem(16, 1<<63+1)}
+	return Runtime(g,
+		Mutator(Ref(26), Num(18), Ref(0), Ref(20)),
+		Scanned(Mutator(Ref(22), Ref(16), Num(0), Num(20))),
+		Mutator(Ref(20), Ref(20), Ref(18), Ref(16)))
+}
+
 // SomeRuntime returns a valid runtime in any phase, of so many workers and mutators, and a heap of about so many spans.
 func SomeRuntime(p *Picks, spans, workers, mutators int) api.Runtime {
 	return Manned(p, SomeGc(p, spans, workers), mutators)

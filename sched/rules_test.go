@@ -60,7 +60,7 @@ func calls() map[string]func(r api.Runtime) answer {
 
 // arguments are runtimes with which each call succeeds, and others with which it is refused.
 func arguments() []api.Runtime {
-	idle, last := sample.ThreeLists(), busy()
+	idle, last := sample.ThreeLists(), sample.BusyRuntime()
 	idle.Gc.Queue = []api.Item{sample.FinalItem(20, 1), sample.CleanItem(2)}
 	overfull := sample.ThreeLists()
 	overfull.Gc.Queue = slices.Repeat([]api.Item{sample.CleanItem(1)}, 256)
@@ -72,7 +72,7 @@ func arguments() []api.Runtime {
 	late.Gc.Marker = sample.On(late.Gc.Marker.Heap, make([]api.Hand, 2))
 	late.Gc.Table = api.Ephem{}
 	swept := sample.Runtime(sample.ThreeLarge(), sample.Mutator())
-	return []api.Runtime{idle, busy(), last, late, overfull, swept}
+	return []api.Runtime{idle, sample.BusyRuntime(), last, late, overfull, swept}
 }
 
 // TestArguments: among the arguments is one for each task.

@@ -172,7 +172,7 @@ func TestRoots(t *testing.T) {
 	if sum < 500 {
 		t.Error(sum)
 	}
-	if l, why := sched.Roots(busy()); !slices.Equal(l, []uint64{26, 20, 22, 16, 20, 20, 18, 16}) || why != api.OK {
+	if l, why := sched.Roots(sample.BusyRuntime()); !slices.Equal(l, []uint64{26, 20, 22, 16, 20, 20, 18, 16}) || why != api.OK {
 		t.Error(l, why)
 	}
 }
@@ -182,7 +182,7 @@ func TestRoots(t *testing.T) {
 func TestDo(t *testing.T) {
 	counts := map[api.TaskKind]map[api.Errno]int{}
 	l := tasks()
-	for i, r := range append(runtimes(150), small()...) {
+	for i, r := range append(runtimes(150), sample.SmallRuntimes()...) {
 		for _, task := range l {
 			want, wanted, no := done(r, task)
 			got, ran, why := sched.Do(r, task)
@@ -236,10 +236,10 @@ func TestScan(t *testing.T) {
 		{0, []uint64{16, 20, 22, 24, 26}, []uint64{16, 26, 20}},
 		{2, []uint64{16, 18, 20, 22, 24}, []uint64{16, 20, 18}},
 	} {
-		want := busy()
+		want := sample.BusyRuntime()
 		want.Gc.Marker = sample.On(sample.Marks(want.Gc.Marker.Heap, x.marked...), []api.Hand{{}, {Obj: 24, Field: 1}}, x.queue)
 		want.Mutators[x.who].Scanned = true
-		got, ran, why := sched.Do(busy(), api.Task{Kind: api.TaskScan, Who: x.who})
+		got, ran, why := sched.Do(sample.BusyRuntime(), api.Task{Kind: api.TaskScan, Who: x.who})
 		if !same(got, want) || !sample.SameRan(ran, api.Ran{}) || why != api.OK {
 			t.Error(x.who, got.Gc.Marker.Grey, ran, why)
 		}
@@ -251,7 +251,7 @@ func TestScanErrors(t *testing.T) {
 	late := sample.Runtime(sample.SixMarked(api.PhaseLate, 16, 20, 22, 24), sample.Scanned(sample.Mutator()), sample.Scanned(sample.Mutator()))
 	idle := sample.ThreeLists()
 	swept := sample.Runtime(sample.ThreeLarge(), sample.Mutator(), sample.Mutator())
-	for _, r := range []api.Runtime{idle, busy(), late, swept} {
+	for _, r := range []api.Runtime{idle, sample.BusyRuntime(), late, swept} {
 		for _, who := range append(sample.Ints(), -2, -1, 3, 4, 5) {
 			if got, _, why := sched.Do(r, api.Task{Kind: api.TaskScan, Who: who}); !same(got, r) || why != api.ErrTask {
 				t.Errorf("phase %d, mutator %d: error %d", r.Gc.Phase, who, why)
@@ -340,7 +340,7 @@ func TestRun(t *testing.T) {
 
 func TestTasks(t *testing.T) {
 	counts := map[api.TaskKind]int{}
-	for i, r := range append(runtimes(400), small()...) {
+	for i, r := range append(runtimes(400), sample.SmallRuntimes()...) {
 		want := possible(r)
 		if l, why := sched.Tasks(r); !slices.Equal(l, want) || why != api.OK {
 			t.Errorf("Tasks of runtime %d: %v, error %d; want %v", i, l, why, want)
@@ -360,7 +360,7 @@ func TestTasks(t *testing.T) {
 func TestTasksOrder(t *testing.T) {
 	scan := func(who int) api.Task { return api.Task{Kind: api.TaskScan, Who: who} }
 	work := func(who int) api.Task { return api.Task{Kind: api.TaskWork, Who: who} }
-	r := busy()
+	r := sample.BusyRuntime()
 	for i, x := range []struct {
 		tasks []api.Task
 		next  api.Task
@@ -397,7 +397,7 @@ func TestTasksNone(t *testing.T) {
 func TestCycle(t *testing.T) {
 	p := sample.Picks(113)
 	counts := map[api.Errno]int{}
-	for i, r := range slices.Concat(runtimes(200), idles(&p, 100), full(&p, 150), small()) {
+	for i, r := range slices.Concat(runtimes(200), idles(&p, 100), full(&p, 150), sample.SmallRuntimes()) {
 		want, steps, no := cycled(r)
 		got, n, why := sched.Cycle(r)
 		if !same(got, want) || n != steps || why != no {
@@ -430,7 +430,7 @@ func TestCycleSteps(t *testing.T) {
 // TestCycleErrors: in each other phase Cycle is refused, and where items have no room, nothing changes: neither for finalizers, nor for cleanups.
 func TestCycleErrors(t *testing.T) {
 	late := sample.Runtime(sample.SixMarked(api.PhaseLate, 16, 20, 22, 24), sample.Scanned(sample.Mutator()))
-	for _, r := range []api.Runtime{busy(), late, sample.Runtime(sample.ThreeLarge(), sample.Mutator())} {
+	for _, r := range []api.Runtime{sample.BusyRuntime(), late, sample.Runtime(sample.ThreeLarge(), sample.Mutator())} {
 		r.Gc.Queue = slices.Repeat([]api.Item{sample.CleanItem(1)}, 256)
 		if got, n, why := sched.Cycle(r); !same(got, r) || n != 0 || why != api.ErrState {
 			t.Errorf("Cycle in phase %d: %d, error %d", r.Gc.Phase, n, why)

@@ -34,18 +34,6 @@ func valid(r api.Runtime) bool {
 	return true
 }
 
-// shadow shades objects with worker 0.
-func shadow(m api.Marker, addrs ...uint64) api.Marker {
-	m = sample.CopyMarker(m)
-	for _, addr := range addrs {
-		if marked := sample.Marked(m.Heap); !slices.Contains(marked, addr) {
-			m.Heap = sample.Marks(m.Heap, append(marked, addr)...)
-			m.Grey.Queues[0] = append(m.Grey.Queues[0], addr)
-		}
-	}
-	return m
-}
-
 // done is what Do answers.
 func done(r api.Runtime, t api.Task) (api.Runtime, api.Ran, api.Errno) {
 	out, ran, why := sample.CopyRuntime(r), api.Ran{}, api.OK
@@ -65,7 +53,7 @@ func done(r api.Runtime, t api.Task) (api.Runtime, api.Ran, api.Errno) {
 		if ran.Item.Kind == api.SpecialFinal && ran.Item.Tag&1 != 0 {
 			out.Mutators[0].Regs[0] = sample.Ref(ran.Item.Addr)
 			if out.Gc.Marker.On {
-				out.Gc.Marker = shadow(out.Gc.Marker, ran.Item.Addr)
+				out.Gc.Marker = sample.Shaded(out.Gc.Marker, ran.Item.Addr)
 			}
 		}
 	default:
@@ -85,7 +73,7 @@ func scanned(r api.Runtime, who int) (api.Runtime, api.Errno) {
 	if r.Gc.Phase != api.PhaseMark || r.Mutators[who].Scanned {
 		return r, api.ErrState
 	}
-	r.Gc.Marker = shadow(r.Gc.Marker, sample.Refs(r.Mutators[who])...)
+	r.Gc.Marker = sample.Shaded(r.Gc.Marker, sample.Refs(r.Mutators[who])...)
 	r.Mutators[who].Scanned = true
 	return r, api.OK
 }
@@ -159,14 +147,9 @@ func first(r api.Runtime) (api.Runtime, bool) {
 	return r, false
 }
 
-// small are the runtimes of the sample that a test may try again and again.
-func small() []api.Runtime {
-	return slices.DeleteFunc(sample.Runtimes(), func(r api.Runtime) bool { return len(r.Gc.Marker.Heap.Spans) > 100 })
-}
-
 // runtimes are valid runtimes in all phases, with small heaps.
 func runtimes(n int) []api.Runtime {
-	out := append(small(), busy())
+	out := append(sample.SmallRuntimes(), sample.BusyRuntime())
 	p := sample.Picks(111)
 	for i := range n {
 		out = append(out, sample.SomeRuntime(&p, i%10, 1+i%4, 1+i/4%4))
@@ -195,18 +178,4 @@ func full(p *sample.Picks, n int) []api.Runtime {
 		out[i].Gc.Queue = slices.Repeat([]api.Item{sample.CleanItem(1)}, 256-p.Below(8))
 	}
 	return out
-}
-
-// busy is in PhaseMark, with something of all kinds: one mutator of three is not Scanned, and refers to white objects, some of them twice.
-func busy() api.Runtime {
-	g := sample.SixMarked(api.PhaseMark, 16, 22, 24)
-	g.Marker = sample.On(g.Marker.Heap, []api.Hand{{}, {Obj: 24, Field: 1}}, []uint64{16})
-	g.Table = sample.Without(sample.Pairs(16, 16, 18, 20, 26, 24, 0, 26, 20), 16)
-	g.Specials = []api.Special{sample.Cleanup(16, 1), sample.Final(16, 2), sample.Cleanup(20, 3), sample.Final(22, 5), sample.Cleanup(26, 6)}
-	g.Weak = []uint64{16, 0, 26}
-	g.Queue = []api.Item{sample.FinalItem(22, 7), sample.CleanItem(9), sample.FinalItem(24, 8), sample.FinalItem(16, 1<<63+1)}
-	return sample.Runtime(g,
-		sample.Mutator(sample.Ref(26), sample.Num(18), sample.Ref(0), sample.Ref(20)),
-		sample.Scanned(sample.Mutator(sample.Ref(22), sample.Ref(16), sample.Num(0), sample.Num(20))),
-		sample.Mutator(sample.Ref(20), sample.Ref(20), sample.Ref(18), sample.Ref(16)))
 }
