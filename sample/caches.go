@@ -59,9 +59,7 @@ func RoomyCache(c api.Cache) (api.Cache, func() bool) {
 		rests = append(rests, extend(&c.Spans[i], 77))
 	}
 	rests = append(rests, extendBy(&c.Spans, []int{77}, func(own []int) bool { return slices.Equal(own, []int{77}) }))
-	return c, func() bool {
-		return !slices.ContainsFunc(rests, func(rest func() bool) bool { return !rest() })
-	}
+	return c, every(rests)
 }
 
 // WovenCaches returns valid caches whose lists share memory, in each phase.

@@ -6,23 +6,28 @@ import (
 	"besom/api"
 )
 
-// SpoilsOfGc returns functions each of which changes one list of a collected heap, and all that lies behind its end.
-func SpoilsOfGc(g api.Gc) []func() {
-	h := g.Marker.Heap
+// SpoilsOfHeap returns functions each of which changes one list of a heap, and all that lies behind its end.
+func SpoilsOfHeap(h api.Heap) []func() {
 	out := []func(){
 		SpoilWords(h.Arena.Words),
 		SpoilWords(h.Pages.Used.W),
 		spoil(h.Spans, func(s *api.Span) { s.First += 1000 }),
+	}
+	for _, s := range h.Spans {
+		out = append(out, SpoilWords(s.Alloc.W), SpoilWords(s.Mark.W))
+	}
+	return out
+}
+
+// SpoilsOfGc returns functions each of which changes one list of a collected heap, and all that lies behind its end.
+func SpoilsOfGc(g api.Gc) []func() {
+	out := append(SpoilsOfHeap(g.Marker.Heap),
 		spoil(g.Marker.Grey.Queues, func(q *[]uint64) { *q = []uint64{1000} }),
 		spoil(g.Marker.Hands, func(h *api.Hand) { h.Obj += 1000 }),
 		spoil(g.Table.Slots, func(s *api.EphSlot) { s.Val += 1000 }),
 		spoil(g.Specials, func(s *api.Special) { s.Addr += 1000 }),
 		SpoilWords(g.Weak),
-		spoil(g.Queue, func(i *api.Item) { i.Tag += 1000 }),
-	}
-	for _, s := range h.Spans {
-		out = append(out, SpoilWords(s.Alloc.W), SpoilWords(s.Mark.W))
-	}
+		spoil(g.Queue, func(i *api.Item) { i.Tag += 1000 }))
 	for _, q := range g.Marker.Grey.Queues {
 		out = append(out, SpoilWords(q))
 	}
@@ -60,28 +65,33 @@ func spoil[T any](l []T, change func(x *T)) func() {
 	}
 }
 
-// RoomyGc returns a collected heap in memory that goes on behind its lists, where a careless append would write to, and a function that reports whether what lies there is as it was.
-func RoomyGc(g api.Gc) (api.Gc, func() bool) {
-	g = CopyGc(g)
-	h := &g.Marker.Heap
-	rests := []func() bool{
-		extend(&h.Arena.Words, 77), extend(&h.Pages.Used.W, 77), extend(&g.Weak, 77),
-		extend(&g.Marker.Hands, api.Hand{Obj: 77}), extend(&g.Table.Slots, api.EphSlot{Key: 77}),
-		extend(&g.Specials, Final(77, 77)), extend(&g.Queue, FinalItem(77, 77)),
-	}
+// RoomyHeap returns a heap in memory that goes on behind its lists, where a careless append would write to, and a function that reports whether what lies there is as it was.
+func RoomyHeap(h api.Heap) (api.Heap, func() bool) {
+	h = CopyHeap(h)
+	rests := []func() bool{extend(&h.Arena.Words, 77), extend(&h.Pages.Used.W, 77)}
 	for i := range h.Spans {
 		s := &h.Spans[i]
 		rests = append(rests, extend(&s.Alloc.W, 77), extend(&s.Mark.W, 77))
 	}
+	rests = append(rests, extendBy(&h.Spans, Span(77, 1, 4, 0, 0), func(s api.Span) bool { return s.First == 77 }))
+	return h, every(rests)
+}
+
+// RoomyGc returns a collected heap in such memory, and a function that reports whether what lies behind its lists is as it was.
+func RoomyGc(g api.Gc) (api.Gc, func() bool) {
+	g = CopyGc(g)
+	h, rest := RoomyHeap(g.Marker.Heap)
+	g.Marker.Heap = h
+	rests := []func() bool{
+		rest, extend(&g.Weak, 77),
+		extend(&g.Marker.Hands, api.Hand{Obj: 77}), extend(&g.Table.Slots, api.EphSlot{Key: 77}),
+		extend(&g.Specials, Final(77, 77)), extend(&g.Queue, FinalItem(77, 77)),
+	}
 	for i := range g.Marker.Grey.Queues {
 		rests = append(rests, extend(&g.Marker.Grey.Queues[i], 77))
 	}
-	rests = append(rests,
-		extendBy(&h.Spans, Span(77, 1, 4, 0, 0), func(s api.Span) bool { return s.First == 77 }),
-		extendBy(&g.Marker.Grey.Queues, []uint64{77}, func(q []uint64) bool { return slices.Equal(q, []uint64{77}) }))
-	return g, func() bool {
-		return !slices.ContainsFunc(rests, func(rest func() bool) bool { return !rest() })
-	}
+	rests = append(rests, extendBy(&g.Marker.Grey.Queues, []uint64{77}, func(q []uint64) bool { return slices.Equal(q, []uint64{77}) }))
+	return g, every(rests)
 }
 
 // RoomyRuntime returns a runtime in such memory, and a function that reports whether what lies behind its lists is as it was.
@@ -96,8 +106,13 @@ func RoomyRuntime(r api.Runtime) (api.Runtime, func() bool) {
 	rests = append(rests, extendBy(&r.Mutators, Scanned(Mutator(Num(77))), func(m api.Mutator) bool {
 		return m.Scanned && slices.Equal(m.Regs, Mutator(Num(77)).Regs)
 	}))
-	return r, func() bool {
-		return !slices.ContainsFunc(rests, func(rest func() bool) bool { return !rest() })
+	return r, every(rests)
+}
+
+// every returns a function that reports whether each of these reports true.
+func every(l []func() bool) func() bool {
+	return func() bool {
+		return !slices.ContainsFunc(l, func(one func() bool) bool { return !one() })
 	}
 }
 

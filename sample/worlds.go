@@ -47,9 +47,7 @@ func RoomyWorld(w api.World) (api.World, func() bool) {
 		rests = append(rests, extend(&w.Ran[i].Fields, 77))
 	}
 	rests = append(rests, extendBy(&w.Ran, SomeRan(77), func(x api.Ran) bool { return SameRan(x, SomeRan(77)) }))
-	return w, func() bool {
-		return !slices.ContainsFunc(rests, func(rest func() bool) bool { return !rest() })
-	}
+	return w, every(rests)
 }
 
 // WovenWorlds returns valid worlds whose lists share memory, in each phase.
