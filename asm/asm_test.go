@@ -199,7 +199,7 @@ func TestParseSomeTexts(t *testing.T) {
 		}
 		text := strings.Join(l, "\n")
 		if p.Below(4) == 0 {
-			text = spoilt(&p, text)
+			text = sample.Spoilt(&p, text, "\n\n  :rr0019aZ\r\t\x00\xff_@-+")
 		}
 		want, line, no := parsed(text)
 		expect(t, text, want, line, no)
@@ -213,23 +213,6 @@ func TestParseSomeTexts(t *testing.T) {
 			t.Error(whys)
 		}
 	}
-}
-
-// spoilt is a text in which a byte is another one, or is there no more, or twice.
-func spoilt(p *sample.Picks, text string) string {
-	if text == "" {
-		return text
-	}
-	at := p.Below(len(text))
-	some := "\n\n  :rr0019aZ\r\t\x00\xff_@-+"
-	switch p.Below(3) {
-	case 0:
-		return text[:at] + text[at+1:]
-	case 1:
-		return text[:at] + text[at:at+1] + text[at:]
-	}
-	k := p.Below(len(some))
-	return text[:at] + some[k:k+1] + text[at+1:]
 }
 
 // TestParseErrors: the first line with an error is told, whatever comes behind it; that a label is not there comes last, and is told of the first line that goes to it.

@@ -1,4 +1,4 @@
-// Package plain copies values of package api, and reads those that a layer has found valid.
+// Package plain copies values of package api, and has what several layers do with those that they have found valid.
 package plain
 
 import (
@@ -63,12 +63,29 @@ func Ran(x api.Ran) api.Ran {
 	return x
 }
 
+// Rans returns a copy with memory of its own.
+func Rans(l []api.Ran) []api.Ran {
+	l = slices.Clone(l)
+	for i, x := range l {
+		l[i] = Ran(x)
+	}
+	return l
+}
+
 // World returns a copy with memory of its own.
 func World(w api.World) api.World {
 	w.Runtime = Runtime(w.Runtime)
-	w.Ran = slices.Clone(w.Ran)
-	for i, x := range w.Ran {
-		w.Ran[i] = Ran(x)
-	}
+	w.Ran = Rans(w.Ran)
 	return w
+}
+
+// Vm returns a copy with memory of its own.
+func Vm(v api.Vm) api.Vm {
+	v.Runtime = Runtime(v.Runtime)
+	v.Threads = slices.Clone(v.Threads)
+	for i := range v.Threads {
+		v.Threads[i].Code = slices.Clone(v.Threads[i].Code)
+	}
+	v.Ran = Rans(v.Ran)
+	return v
 }

@@ -144,6 +144,18 @@ func someReg(p *Picks, objects []uint64) api.Reg {
 	return Num(p.Word())
 }
 
+// Round returns all tasks that there are in a runtime, in the order of the document.
+func Round(r api.Runtime) []api.Task {
+	out := []api.Task{{Kind: api.TaskStart}}
+	for who := range r.Mutators {
+		out = append(out, api.Task{Kind: api.TaskScan, Who: who})
+	}
+	for who := range r.Gc.Marker.Grey.Queues {
+		out = append(out, api.Task{Kind: api.TaskWork, Who: who})
+	}
+	return append(out, api.Task{Kind: api.TaskFinish}, api.Task{Kind: api.TaskSweep}, api.Task{Kind: api.TaskRun})
+}
+
 // BadRuntimes returns runtimes that are not valid, each for a reason of its own.
 func BadRuntimes() []api.Runtime {
 	bad := []api.Runtime{{}, {Mutators: []api.Mutator{Mutator()}}}

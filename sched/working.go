@@ -45,18 +45,6 @@ func refs(l ...api.Mutator) []uint64 {
 	return addrs
 }
 
-// tasks returns all tasks that there are in this runtime, whether or not they are possible now.
-func (w working) tasks() []api.Task {
-	l := []api.Task{{Kind: api.TaskStart}}
-	for who := range w.Mutators {
-		l = append(l, api.Task{Kind: api.TaskScan, Who: who})
-	}
-	for who := range w.Gc.Marker.Hands {
-		l = append(l, api.Task{Kind: api.TaskWork, Who: who})
-	}
-	return append(l, api.Task{Kind: api.TaskFinish}, api.Task{Kind: api.TaskSweep}, api.Task{Kind: api.TaskRun})
-}
-
 // can reports whether a task would not be refused. It tries, so that it never differs from what do says.
 func (w working) can(t api.Task) bool {
 	trial := w.twin()

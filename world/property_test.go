@@ -92,7 +92,7 @@ func TestAfterwards(t *testing.T) {
 func quiet(t *testing.T, w api.World, s *sample.Story, rounds int) api.World {
 	t.Helper()
 	for range rounds {
-		for _, task := range round(w) {
+		for _, task := range sample.Round(w.Runtime) {
 			w, _ = happen(t, w, s, api.Pick{Task: task})
 		}
 	}

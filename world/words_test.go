@@ -33,23 +33,11 @@ func done(w api.World, p api.Pick) (api.World, api.Heard, api.Errno) {
 	return out, heard, api.OK
 }
 
-// round are the tasks of a round of Fair.
-func round(w api.World) []api.Task {
-	out := []api.Task{{Kind: api.TaskStart}}
-	for who := range w.Runtime.Mutators {
-		out = append(out, api.Task{Kind: api.TaskScan, Who: who})
-	}
-	for who := range w.Runtime.Gc.Marker.Grey.Queues {
-		out = append(out, api.Task{Kind: api.TaskWork, Who: who})
-	}
-	return append(out, api.Task{Kind: api.TaskFinish}, api.Task{Kind: api.TaskSweep}, api.Task{Kind: api.TaskRun})
-}
-
 // fair is what Fair answers, if there may be so many rounds.
 func fair(w api.World, rounds int) (api.World, int) {
 	steps := 0
 	for range rounds {
-		for _, task := range round(w) {
+		for _, task := range sample.Round(w.Runtime) {
 			next, _, why := done(w, api.Pick{Task: task})
 			if why == api.OK {
 				w, steps = next, steps+1

@@ -1,8 +1,6 @@
 package world
 
 import (
-	"slices"
-
 	"besom/api"
 	"besom/mut"
 	"besom/plain"
@@ -43,41 +41,20 @@ func (w *working) task(t api.Task) (api.Ran, api.Errno) {
 	r, ran, why := sched.Do(w.Runtime, t)
 	w.Runtime = r
 	if why == api.OK && t.Kind == api.TaskRun {
-		w.record(ran)
+		w.Ran = plain.Record(w.Ran, ran)
 	}
 	return ran, why
-}
-
-// record records what was run. Of more than there may be, the first one is forgotten.
-func (w *working) record(ran api.Ran) {
-	if len(w.Ran) == api.MaxRan {
-		w.Ran = slices.Delete(w.Ran, 0, 1)
-	}
-	// The record has fields of its own, because what was run is also handed out.
-	w.Ran = append(w.Ran, plain.Ran(ran))
 }
 
 // round executes each task once, and returns the number of those that were not refused.
 func (w *working) round() int {
 	steps := 0
-	for _, t := range w.tasks() {
+	for _, t := range plain.Tasks(w.Runtime) {
 		if _, why := w.task(t); why == api.OK {
 			steps++
 		}
 	}
 	return steps
-}
-
-// tasks returns the tasks of a round, in order.
-func (w working) tasks() []api.Task {
-	l := []api.Task{{Kind: api.TaskStart}}
-	for who := range w.Runtime.Mutators {
-		l = append(l, api.Task{Kind: api.TaskScan, Who: who})
-	}
-	for who := range w.Runtime.Gc.Marker.Hands {
-		l = append(l, api.Task{Kind: api.TaskWork, Who: who})
-	}
-	return append(l, api.Task{Kind: api.TaskFinish}, api.Task{Kind: api.TaskSweep}, api.Task{Kind: api.TaskRun})
 }
 
 // roots returns what the registers refer to, and the objects of the items: 0 for a cleanup, which has none.
