@@ -11,16 +11,11 @@ import (
 	"besom/sample"
 )
 
-// workers are numbers of workers that there may be, and numbers that are none.
-func workers() []int {
-	return append(sample.Ints(), -5, -2, -1, 0, 1, 2, 3, 4, 5, 6, 64, 1<<32+1, math.MinInt+2)
-}
-
 // 13.1
 
 func TestMake(t *testing.T) {
 	for i, h := range sample.Heaps() {
-		for _, n := range workers() {
+		for _, n := range sample.WorkerNumbers() {
 			m, why := barrier.Make(h, n)
 			if n < 1 || n > 4 {
 				if !same(m, api.Marker{}) || why != api.ErrRange {
@@ -179,7 +174,7 @@ func TestShade(t *testing.T) {
 	var grey, errors int
 	for i, m := range markers(200) {
 		all, objects := addrsOf(m), sample.Objects(m.Heap)
-		for _, worker := range workers() {
+		for _, worker := range sample.WorkerNumbers() {
 			var addrs []uint64
 			for range p.Below(8) {
 				if len(objects) > 0 && p.Below(10) > 0 {
@@ -240,7 +235,7 @@ func TestWrite(t *testing.T) {
 				ref = o.Mask>>field&1 == 1
 			}
 			if k == 0 {
-				l := workers()
+				l := sample.WorkerNumbers()
 				worker = l[p.Below(len(l))]
 			}
 			want, no := written(m, worker, addr, field, w, ref)

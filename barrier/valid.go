@@ -1,15 +1,13 @@
 package barrier
 
 import (
-	"slices"
-
 	"besom/api"
 	"besom/plain"
 )
 
 // marking reports whether spans, queues, hands and the marked objects are those of a marker that is On.
 func (w working) marking(marked []uint64) bool {
-	if slices.ContainsFunc(w.Heap.Spans, func(s api.Span) bool { return !s.Swept }) {
+	if !plain.Swept(w.Heap) {
 		return false
 	}
 	examined, right := w.greys()

@@ -43,20 +43,12 @@ func (w working) has(worker int) bool {
 
 // idle reports whether all queues are empty, and no hand has an object.
 func (w working) idle() bool {
-	filled := slices.ContainsFunc(w.Grey.Queues, func(q []uint64) bool { return len(q) > 0 })
-	return !filled && !slices.ContainsFunc(w.Hands, func(h api.Hand) bool { return h.Obj != 0 })
+	return plain.Empty(w.Grey) && !slices.ContainsFunc(w.Hands, func(h api.Hand) bool { return h.Obj != 0 })
 }
 
 // off reports whether queues and hands are those of a marker that is not On.
 func (w working) off() bool {
 	return w.idle() && !slices.ContainsFunc(w.Hands, func(h api.Hand) bool { return h.Field != 0 })
-}
-
-// exist reports whether each of the addresses is 0, or that of a current object.
-func (w working) exist(addrs []uint64) bool {
-	return !slices.ContainsFunc(addrs, func(addr uint64) bool {
-		return addr != 0 && !w.objects.Has(addr)
-	})
 }
 
 // shade shades the objects at the addresses, which have to exist, with a worker, and returns how many of them were not marked.

@@ -12,11 +12,6 @@ import (
 	"besom/sample"
 )
 
-// workers are numbers of workers that there may be, and numbers that are none.
-func workers() []int {
-	return append(sample.Ints(), -5, -2, -1, 0, 1, 2, 3, 4, 5, 6, 64, 1<<32+1, math.MinInt+2)
-}
-
 // TestInvalidComesFirst: what is not valid comes before all other errors, and there is no result.
 func TestInvalidComesFirst(t *testing.T) {
 	for i, m := range sample.BadMarkers() {
@@ -45,7 +40,7 @@ func TestInvalidComesFirst(t *testing.T) {
 func TestScan(t *testing.T) {
 	counts := map[api.Errno]int{}
 	for i, m := range append(markers(300), sample.Markers()...) {
-		for _, worker := range workers() {
+		for _, worker := range sample.WorkerNumbers() {
 			want, no := scanned(m, worker)
 			got, why := mark.Scan(m, worker)
 			if !same(got, want) || why != no {
@@ -178,25 +173,11 @@ func TestMarks(t *testing.T) {
 	}
 }
 
-// crews are lists of workers that may be told to run, with numbers that are none among them.
-func crews(p *sample.Picks, m api.Marker) [][]int {
-	n := len(m.Hands)
-	out := [][]int{nil, {0}, {n - 1}, {n - 1, 0}, {0, 0}, {0, n}, {-1}, {n}, {math.MaxInt, 0}, {0, math.MinInt}, {1 << 32}}
-	for range 3 {
-		var l []int
-		for range 1 + p.Below(5) {
-			l = append(l, p.Below(n))
-		}
-		out = append(out, l)
-	}
-	return out
-}
-
 func TestRun(t *testing.T) {
 	p := sample.Picks(35)
 	counts := map[api.Errno]int{}
 	for i, m := range markers(100) {
-		for _, l := range crews(&p, m) {
+		for _, l := range sample.Crews(&p, len(m.Hands)) {
 			want, many, no := ran(m, l)
 			got, n, why := mark.Run(m, l...)
 			if !same(got, want) || n != many || why != no {

@@ -27,41 +27,21 @@ func begun(t *testing.T, p *sample.Picks, h api.Heap, workers int, roots []uint6
 	return m
 }
 
-func someRoots(p *sample.Picks, h api.Heap) []uint64 {
-	roots := []uint64{0}
-	if l := sample.Objects(h); len(l) > 0 {
-		for range p.Below(8) {
-			roots = append(roots, l[p.Below(len(l))].Addr)
-		}
-	}
-	return roots
-}
-
-// heaps are valid heaps all of whose spans are Swept.
-func heaps(n int) []api.Heap {
-	out := []api.Heap{sample.FourLists(), sample.ThreeLinked(), sample.ThreeObjects(), sample.SixObjects()}
-	p := sample.Picks(41)
-	for i := range n {
-		out = append(out, sample.AllSwept(sample.Web(&p, i%14)))
-	}
-	return out
-}
-
 // 14.4
 
 // TestClosure: after Start, shading of some roots, and Run, exactly what is reachable from the roots is marked, whichever workers executed the steps.
 func TestClosure(t *testing.T) {
 	p := sample.Picks(43)
 	var many int
-	for i, h := range heaps(150) {
-		roots := someRoots(&p, h)
+	for i, h := range sample.SweptHeaps(150) {
+		roots := sample.SomeRoots(&p, h)
 		want, why := model.Reach(h, roots, api.Ephem{})
-		if why != api.OK || !slices.Equal(want, reachable(h, roots...)) {
+		if why != api.OK || !slices.Equal(want, sample.Reachable(h, roots...)) {
 			t.Fatal(i, want, why)
 		}
 		many += len(want)
 		m := begun(t, &p, h, 1+i%4, roots)
-		for _, l := range crews(&p, m) {
+		for _, l := range sample.Crews(&p, len(m.Hands)) {
 			got, _, why := mark.Run(m, l...)
 			if why == api.ErrTask {
 				continue
@@ -83,13 +63,13 @@ func TestClosure(t *testing.T) {
 // TestClosureByScan: the same holds when single steps are executed in any order.
 func TestClosureByScan(t *testing.T) {
 	p := sample.Picks(45)
-	for i, h := range heaps(60) {
-		roots := someRoots(&p, h)
+	for i, h := range sample.SweptHeaps(60) {
+		roots := sample.SomeRoots(&p, h)
 		m := begun(t, &p, h, 1+i%4, roots)
 		for done := false; !done; done, _ = mark.Done(m) {
 			m, _ = mark.Scan(m, p.Below(len(m.Hands)))
 		}
-		if got, why := mark.Marks(m); !slices.Equal(got, reachable(h, roots...)) || why != api.OK {
+		if got, why := mark.Marks(m); !slices.Equal(got, sample.Reachable(h, roots...)) || why != api.OK {
 			t.Fatalf("heap %d from %d: %d, error %d", i, roots, got, why)
 		}
 	}
@@ -98,11 +78,11 @@ func TestClosureByScan(t *testing.T) {
 // TestMeanwhile: whatever is stored between the steps, in the end all is marked that can be reached then, and what is new.
 func TestMeanwhile(t *testing.T) {
 	p := sample.Picks(47)
-	for i, h := range heaps(60) {
-		m := begun(t, &p, h, 1+i%4, someRoots(&p, h))
+	for i, h := range sample.SweptHeaps(60) {
+		m := begun(t, &p, h, 1+i%4, sample.SomeRoots(&p, h))
 		for done := false; !done; done, _ = mark.Done(m) {
 			m, _ = mark.Scan(m, p.Below(len(m.Hands)))
-			l := reachable(m.Heap, sample.Marked(m.Heap)...)
+			l := sample.Reachable(m.Heap, sample.Marked(m.Heap)...)
 			if len(l) == 0 || p.Below(3) > 0 {
 				continue
 			}
@@ -114,7 +94,7 @@ func TestMeanwhile(t *testing.T) {
 			}
 		}
 		marks := sample.Marked(m.Heap)
-		if closed := reachable(m.Heap, marks...); !slices.Equal(closed, marks) {
+		if closed := sample.Reachable(m.Heap, marks...); !slices.Equal(closed, marks) {
 			t.Fatalf("heap %d: %d is marked, %d can be reached", i, marks, closed)
 		}
 		if out, why := barrier.Stop(m); out.On || why != api.OK {
@@ -128,12 +108,12 @@ func TestMeanwhile(t *testing.T) {
 // TestEnds: each object that is marked takes two steps, and one more for each field that holds a reference, whichever workers execute them. In these heaps, whose objects do not fill them with references alone, that is no more than the arena has words.
 func TestEnds(t *testing.T) {
 	p := sample.Picks(49)
-	for i, h := range heaps(150) {
-		roots := someRoots(&p, h)
+	for i, h := range sample.SweptHeaps(150) {
+		roots := sample.SomeRoots(&p, h)
 		m := begun(t, &p, h, 1+i%4, roots)
 		want := 0
 		for _, o := range sample.Objects(h) {
-			if !slices.Contains(reachable(h, roots...), o.Addr) {
+			if !slices.Contains(sample.Reachable(h, roots...), o.Addr) {
 				continue
 			}
 			want += 2

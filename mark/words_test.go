@@ -20,19 +20,6 @@ func left(m api.Marker) bool {
 	return len(slices.Concat(m.Grey.Queues...)) > 0 || slices.ContainsFunc(m.Hands, func(h api.Hand) bool { return h.Obj != 0 })
 }
 
-// popped takes an address away as grey.Pop does. There has to be one.
-func popped(m api.Marker, worker int) uint64 {
-	if n := len(m.Grey.Queues[worker]); n > 0 {
-		addr := m.Grey.Queues[worker][n-1]
-		m.Grey.Queues[worker] = m.Grey.Queues[worker][:n-1]
-		return addr
-	}
-	most := slices.MaxFunc(m.Grey.Queues, func(a, b []uint64) int { return len(a) - len(b) })
-	from := slices.IndexFunc(m.Grey.Queues, func(q []uint64) bool { return len(q) == len(most) })
-	m.Grey.Queues[from] = most[1:]
-	return most[0]
-}
-
 // scanned is what Scan answers.
 func scanned(m api.Marker, worker int) (api.Marker, api.Errno) {
 	if !isWorker(m, worker) {
@@ -47,7 +34,7 @@ func scanned(m api.Marker, worker int) (api.Marker, api.Errno) {
 		if len(slices.Concat(m.Grey.Queues...)) == 0 {
 			return m, api.ErrNone
 		}
-		*hand = api.Hand{Obj: popped(out, worker)}
+		*hand = api.Hand{Obj: sample.Popped(out.Grey, worker)}
 		return out, api.OK
 	}
 	for _, o := range sample.Objects(out.Heap) {
@@ -115,33 +102,6 @@ func round(m api.Marker, workers []int, most int) (api.Marker, int) {
 		}
 	}
 	return m, n
-}
-
-// reachable are the objects that are reachable from roots.
-func reachable(h api.Heap, roots ...uint64) []uint64 {
-	in := map[uint64]bool{}
-	for _, addr := range roots {
-		in[addr] = addr != 0
-	}
-	objects := sample.Objects(h)
-	for before := -1; before < len(in); {
-		before = len(in)
-		for _, o := range objects {
-			if !in[o.Addr] {
-				continue
-			}
-			for _, ref := range o.Refs() {
-				in[ref] = true
-			}
-		}
-	}
-	var out []uint64
-	for _, o := range objects {
-		if in[o.Addr] {
-			out = append(out, o.Addr)
-		}
-	}
-	return out
 }
 
 // chapter is the marker of the chapter's examples: a is in the queue of worker 1.

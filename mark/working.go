@@ -31,38 +31,8 @@ func (w *working) has(worker int) bool {
 	return worker >= 0 && worker < len(w.Hands)
 }
 
-// all returns all workers, in ascending order.
-func (w *working) all() []int {
-	var workers []int
-	for worker := range w.Hands {
-		workers = append(workers, worker)
-	}
-	return workers
-}
-
 func (w *working) done() bool {
-	filled := slices.ContainsFunc(w.Grey.Queues, func(q []uint64) bool { return len(q) > 0 })
-	return !filled && !slices.ContainsFunc(w.Hands, func(h api.Hand) bool { return h.Obj != 0 })
-}
-
-// run executes rounds of the workers until nothing is left.
-func (w *working) run(workers []int) {
-rounds:
-	for !w.done() {
-		worked := false
-		for _, worker := range workers {
-			worked = w.step(worker) || worked
-		}
-		if worked {
-			continue
-		}
-		// Only hands of others have objects: one of them goes on, because it may have work for these workers.
-		for worker := range w.Hands {
-			if w.step(worker) {
-				continue rounds
-			}
-		}
-	}
+	return plain.Empty(w.Grey) && !slices.ContainsFunc(w.Hands, func(h api.Hand) bool { return h.Obj != 0 })
 }
 
 // step executes one step of a worker, if there is one.

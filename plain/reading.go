@@ -1,9 +1,25 @@
 package plain
 
 import (
+	"slices"
+
 	"besom/api"
 	"besom/head"
 )
+
+// Swept reports whether each span of a heap is Swept.
+func Swept(h api.Heap) bool {
+	return !slices.ContainsFunc(h.Spans, func(s api.Span) bool {
+		return !s.Swept
+	})
+}
+
+// Empty reports whether all queues are empty.
+func Empty(g api.Grey) bool {
+	return !slices.ContainsFunc(g.Queues, func(q []uint64) bool {
+		return len(q) > 0
+	})
+}
 
 // Marked returns the addresses of the marked objects of a valid heap, in ascending order.
 func Marked(h api.Heap) []uint64 {
@@ -39,4 +55,11 @@ func SetOf(words int, addrs []uint64) Set {
 // Has reports whether an address, which may be any number, is in the set.
 func (s Set) Has(addr uint64) bool {
 	return addr < uint64(len(s)) && s[addr]
+}
+
+// HasAll reports whether each of the references is 0, or to an address in the set.
+func (s Set) HasAll(refs ...uint64) bool {
+	return !slices.ContainsFunc(refs, func(ref uint64) bool {
+		return ref != 0 && !s.Has(ref)
+	})
 }

@@ -26,3 +26,30 @@ func Record(l []api.Ran, x api.Ran) []api.Ran {
 	// The record has fields of its own, because what was run is also handed out.
 	return append(l, Ran(x))
 }
+
+// Rounds executes rounds of steps until none of all workers, of whom there are so many, has one to execute. In each round, each of the given workers executes one step; if none are given, all do. step reports whether the worker had one to execute.
+func Rounds(all int, given []int, step func(worker int) bool) {
+	if len(given) == 0 {
+		given = make([]int, all)
+		for worker := range given {
+			given[worker] = worker
+		}
+	}
+rounds:
+	for {
+		worked := false
+		for _, worker := range given {
+			worked = step(worker) || worked
+		}
+		if worked {
+			continue
+		}
+		// Only others have an object in hand: one of them goes on, because it may have work for these workers.
+		for worker := range all {
+			if step(worker) {
+				continue rounds
+			}
+		}
+		return
+	}
+}

@@ -28,9 +28,7 @@ func (w working) phased() bool {
 	if w.Phase >= api.PhaseCount || w.Marker.On != w.marking() {
 		return false
 	}
-	return w.Phase == api.PhaseSweep || !slices.ContainsFunc(w.Marker.Heap.Spans, func(s api.Span) bool {
-		return !s.Swept
-	})
+	return w.Phase == api.PhaseSweep || plain.Swept(w.Marker.Heap)
 }
 
 // queued reports whether the queue has no more items than it may, each of which is a finalizer of an object, or a cleanup of none.
@@ -55,9 +53,7 @@ func (w working) owned() bool {
 	cleans, _ := special.Addrs(w.Specials, api.SpecialClean)
 	all := slices.Concat(keys, vals, finals, cleans, w.Weak, needed(w.Queue))
 	// 0 is nothing where it may be, and the layers have asked where it may not.
-	return !slices.ContainsFunc(all, func(addr uint64) bool {
-		return addr != 0 && !current.Has(addr)
-	})
+	return current.HasAll(all...)
 }
 
 // dark reports whether nothing is white that may not be while the marker is On.

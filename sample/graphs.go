@@ -148,3 +148,41 @@ func someWords(p *Picks, o Object, current []uint64) []uint64 {
 	}
 	return out
 }
+
+// Reachable returns the objects that are reachable from roots by fields, in ascending order. Roots that are 0 lead to nothing.
+func Reachable(h api.Heap, roots ...uint64) []uint64 {
+	in := map[uint64]bool{}
+	for _, addr := range roots {
+		in[addr] = addr != 0
+	}
+	objects := Objects(h)
+	for before := -1; before < len(in); {
+		before = len(in)
+		for _, o := range objects {
+			if !in[o.Addr] {
+				continue
+			}
+			for _, ref := range o.Refs() {
+				in[ref] = true
+			}
+		}
+	}
+	var out []uint64
+	for _, o := range objects {
+		if in[o.Addr] {
+			out = append(out, o.Addr)
+		}
+	}
+	return out
+}
+
+// SomeRoots returns 0 and some objects of a heap, some of them more than once.
+func SomeRoots(p *Picks, h api.Heap) []uint64 {
+	roots := []uint64{0}
+	if l := Objects(h); len(l) > 0 {
+		for range p.Below(8) {
+			roots = append(roots, l[p.Below(len(l))].Addr)
+		}
+	}
+	return roots
+}

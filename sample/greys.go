@@ -28,6 +28,19 @@ func SameGreys(a, b api.Grey) bool {
 	})
 }
 
+// Popped takes an address out of the queues as grey.Pop does, and changes them. There has to be one.
+func Popped(g api.Grey, worker int) uint64 {
+	if n := len(g.Queues[worker]); n > 0 {
+		addr := g.Queues[worker][n-1]
+		g.Queues[worker] = g.Queues[worker][:n-1]
+		return addr
+	}
+	most := slices.MaxFunc(g.Queues, func(a, b []uint64) int { return len(a) - len(b) })
+	from := slices.IndexFunc(g.Queues, func(q []uint64) bool { return len(q) == len(most) })
+	g.Queues[from] = most[1:]
+	return most[0]
+}
+
 // Greys returns valid queues, small ones first.
 func Greys() []api.Grey {
 	return []api.Grey{

@@ -74,6 +74,15 @@ func WovenVms() []api.Vm {
 	return out
 }
 
+// BareVms returns a machine in that phase, with nothing in it but a mutator, twice: with nil lists, and with empty ones.
+func BareVms(phase api.Phase) (api.Vm, api.Vm) {
+	g, bare := BareGcs(phase)
+	one := Mutator(Num(0), Ref(0))
+	one.Scanned = phase == api.PhaseLate
+	return api.Vm{Runtime: api.Runtime{Gc: g, Mutators: []api.Mutator{one}}, Threads: make([]api.Thread, 1)},
+		api.Vm{Runtime: api.Runtime{Gc: bare, Mutators: []api.Mutator{one}}, Threads: []api.Thread{{Code: []api.Instr{}}}, Ran: []api.Ran{}}
+}
+
 // SumProgram is the first program of the examples of chapter 25: it adds the numbers from 10 down to 1 into register 2.
 func SumProgram() []api.Instr {
 	return []api.Instr{
@@ -117,6 +126,23 @@ func Vms() []api.Vm {
 			most = 256
 		}
 		out = append(out, api.Vm{Runtime: w.Runtime, Threads: SomeThreads(&p, len(w.Runtime.Mutators), most), Ran: w.Ran})
+	}
+	return out
+}
+
+// SomeVms returns so many valid machines with small heaps, half of which have programs that go on and on.
+func SomeVms(seed uint64, count int) []api.Vm {
+	p := Picks(seed)
+	var out []api.Vm
+	for i := range count {
+		r := SomeRuntime(&p, i%6, 1+i%4, 1+i/4%4)
+		threads := SomeThreads(&p, len(r.Mutators), 12)
+		for who := range threads {
+			if i%2 == 0 {
+				threads[who] = api.Thread{Code: BusyProgram(&p, 1+p.Below(20))}
+			}
+		}
+		out = append(out, Vm(r, threads, SomeRans(i%4)...))
 	}
 	return out
 }

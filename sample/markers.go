@@ -238,3 +238,31 @@ func putSomewhere(p *Picks, m api.Marker, o Object, marked []uint64) {
 		m.Grey.Queues[worker] = slices.Insert(q, p.Below(len(q)+1), o.Addr)
 	}
 }
+
+// SweptHeaps returns valid heaps all of whose spans are Swept.
+func SweptHeaps(n int) []api.Heap {
+	out := []api.Heap{FourLists(), ThreeLinked(), ThreeObjects(), SixObjects()}
+	p := Picks(41)
+	for i := range n {
+		out = append(out, AllSwept(Web(&p, i%14)))
+	}
+	return out
+}
+
+// WorkerNumbers returns numbers of workers that there may be, and numbers that are none.
+func WorkerNumbers() []int {
+	return append(Ints(), -5, -2, -1, 0, 1, 2, 3, 4, 5, 6, 64, 1<<32+1, math.MinInt+2)
+}
+
+// Crews returns lists of workers that may be told to run, of whom there are n, with numbers that are none among them.
+func Crews(p *Picks, n int) [][]int {
+	out := [][]int{nil, {0}, {n - 1}, {n - 1, 0}, {0, 0}, {0, n}, {-1}, {n}, {math.MaxInt, 0}, {0, math.MinInt}, {1 << 32}}
+	for range 3 {
+		var l []int
+		for range 1 + p.Below(5) {
+			l = append(l, p.Below(n))
+		}
+		out = append(out, l)
+	}
+	return out
+}

@@ -200,11 +200,7 @@ func TestReaders(t *testing.T) {
 // TestNilIsEmpty: a nil list and an empty one are the same to every call (P1).
 func TestNilIsEmpty(t *testing.T) {
 	for _, phase := range []api.Phase{api.PhaseIdle, api.PhaseMark, api.PhaseLate, api.PhaseSweep} {
-		g, bare := sample.BareGcs(phase)
-		one := sample.Mutator(sample.Num(0), sample.Ref(0))
-		one.Scanned = phase == api.PhaseLate
-		nils := api.Vm{Runtime: api.Runtime{Gc: g, Mutators: []api.Mutator{one}}, Threads: make([]api.Thread, 1)}
-		empties := api.Vm{Runtime: api.Runtime{Gc: bare, Mutators: []api.Mutator{one}}, Threads: []api.Thread{{Code: []api.Instr{}}}, Ran: []api.Ran{}}
+		nils, empties := sample.BareVms(phase)
 		for name, call := range calls() {
 			if a, b := call(nils), call(empties); !a.like(b) || len(a.v.Threads) == 0 {
 				t.Error(name, a, b)

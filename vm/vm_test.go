@@ -12,19 +12,7 @@ import (
 
 // vms are machines with small heaps, and so many others, half of which have programs that go on and on.
 func vms(seed uint64, count int) []api.Vm {
-	p := sample.Picks(seed)
-	out := sample.Vms()
-	for i := range count {
-		r := sample.SomeRuntime(&p, i%6, 1+i%4, 1+i/4%4)
-		threads := sample.SomeThreads(&p, len(r.Mutators), 12)
-		for who := range threads {
-			if i%2 == 0 {
-				threads[who] = api.Thread{Code: sample.BusyProgram(&p, 1+p.Below(20))}
-			}
-		}
-		out = append(out, sample.Vm(r, threads, sample.SomeRans(i%4)...))
-	}
-	return out
+	return append(sample.Vms(), sample.SomeVms(seed, count)...)
 }
 
 // programs are several of these.
