@@ -1,11 +1,11 @@
 package asm
 
 import (
-	"strconv"
 	"strings"
 
 	"besom/api"
 	"besom/head"
+	"besom/plain"
 )
 
 // command is an instruction as its line tells it: where it goes is not known until all labels are.
@@ -103,22 +103,12 @@ func (c *command) tell(o operand, word string) bool {
 		}
 		word = digits
 	}
-	n, ok := numberOf(word)
+	n, ok := plain.Number(word)
 	if !ok || n > o.most(0) {
 		return false
 	}
 	o.put(&c.Instr, n)
 	return true
-}
-
-// numberOf returns the number that a word is.
-func numberOf(word string) (uint64, bool) {
-	n, err := strconv.ParseUint(word, 10, 64)
-	// A number is written in one way only: without a sign, and without superfluous zeros.
-	if err != nil || strconv.FormatUint(n, 10) != word {
-		return 0, false
-	}
-	return n, true
 }
 
 func isLabel(name string) bool {

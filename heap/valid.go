@@ -6,6 +6,7 @@ import (
 	"besom/bits"
 	"besom/head"
 	"besom/pages"
+	"besom/plain"
 	"besom/span"
 )
 
@@ -64,22 +65,16 @@ func (w working) sound(s api.Span) bool {
 		taken := uint64(0)
 		if allocated, _ := bits.Get(s.Alloc, slot); allocated {
 			shape, why := head.Unpack(w.word(addr))
-			if why != api.OK || !fits(shape, s) {
+			if why != api.OK || !plain.Fits(shape, s) {
 				return false
 			}
 			taken = uint64(shape.N) + 1
 		}
-		if !w.blank(addr+taken, slotWords(s)-taken) {
+		if !w.blank(addr+taken, plain.SlotWords(s)-taken) {
 			return false
 		}
 	}
 	return true
-}
-
-// fits reports whether objects of a valid shape are in spans like s.
-func fits(shape api.Shape, s api.Span) bool {
-	size, count := needs(shape)
-	return s.Size == size && s.Pages == count
 }
 
 // blank reports whether the n words from an address on are 0. Their sum would not tell, because it wraps round.

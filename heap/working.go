@@ -7,9 +7,9 @@ import (
 	"besom/api"
 	"besom/arena"
 	"besom/bits"
-	"besom/class"
 	"besom/head"
 	"besom/pages"
+	"besom/plain"
 	"besom/span"
 )
 
@@ -34,15 +34,7 @@ func (o object) field(i int) uint64 {
 
 // twin returns a copy with memory of its own.
 func (w working) twin() working {
-	w.Arena.Words = slices.Clone(w.Arena.Words)
-	w.Pages.Used.W = slices.Clone(w.Pages.Used.W)
-	w.Spans = slices.Clone(w.Spans)
-	for i := range w.Spans {
-		s := &w.Spans[i]
-		s.Alloc.W = slices.Clone(s.Alloc.W)
-		s.Mark.W = slices.Clone(s.Mark.W)
-	}
-	return w
+	return working{plain.Heap(w.Heap)}
 }
 
 func (w working) word(addr uint64) uint64 {
@@ -83,24 +75,6 @@ func (w working) object(at, slot int) object {
 	return object{addr: addr, shape: shape, at: at, slot: slot, marked: marked}
 }
 
-// needs returns the Size and the number of pages of the spans in which objects of a valid shape are.
-func needs(shape api.Shape) (size, count int) {
-	words := shape.N + 1
-	if c, _ := class.Of(words); c >= 0 {
-		size, _ = class.Size(c)
-	}
-	count, _ = class.Pages(words)
-	return size, count
-}
-
-// slotWords returns the number of words of a slot.
-func slotWords(s api.Span) uint64 {
-	if s.Size == 0 {
-		return uint64(s.Pages * api.PageWords)
-	}
-	return uint64(s.Size)
-}
-
 // spanAt returns the index of the span that begins at page first, or -1.
 func (w working) spanAt(first int) int {
 	return slices.IndexFunc(w.Spans, func(s api.Span) bool {
@@ -110,7 +84,7 @@ func (w working) spanAt(first int) int {
 
 // room returns the index of the span, and the slot, where a new object of a valid shape belongs. It adds a span if it has to.
 func (w *working) room(shape api.Shape) (int, int, api.Errno) {
-	size, count := needs(shape)
+	size, count := plain.Needs(shape)
 	// An object without a class never shares a span, not even one that has become empty.
 	if size > 0 {
 		at, slot, why := span.Room(w.Spans, size)
@@ -176,7 +150,7 @@ func (w *working) clean(at int) []uint64 {
 	s := &w.Spans[at]
 	freed := unmarked(*s)
 	for _, addr := range freed {
-		w.Arena, _ = arena.Clear(w.Arena, addr, slotWords(*s))
+		w.Arena, _ = arena.Clear(w.Arena, addr, plain.SlotWords(*s))
 	}
 	s.Alloc, _ = bits.Both(s.Alloc, s.Mark)
 	s.Swept = true

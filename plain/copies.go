@@ -1,4 +1,4 @@
-// Package plain copies values of package api, and has what several layers do with those that they have found valid.
+// Package plain copies values of package api, and has what several layers do with those that they have found valid, and with the words of their texts.
 package plain
 
 import (

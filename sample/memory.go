@@ -52,6 +52,11 @@ func SpoilsOfRan(l []api.Ran) []func() {
 	return out
 }
 
+// SpoilFaults returns a function that changes a list, and all that lies behind its end.
+func SpoilFaults(l []api.Fault) func() {
+	return spoil(l, func(f *api.Fault) { f.At += 1000 })
+}
+
 // SpoilWords returns a function that changes a list, and all that lies behind its end.
 func SpoilWords(l []uint64) func() {
 	return spoil(l, func(w *uint64) { *w += 1000 })

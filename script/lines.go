@@ -5,6 +5,7 @@ import (
 	"strings"
 
 	"besom/api"
+	"besom/plain"
 )
 
 // times stands between the name of an event and its Times.
@@ -65,10 +66,9 @@ func (n names) parse(line string) (api.Event, bool) {
 
 // timesOf returns the Times that digits tell. Once is told by no digits.
 func timesOf(digits string) (int, bool) {
-	n, err := strconv.Atoi(digits)
-	// A number is written in one way only: without a sign, and without superfluous zeros.
-	if err != nil || strconv.Itoa(n) != digits {
+	n, ok := plain.Number(digits)
+	if !ok || n <= 1 || n > api.MaxTimes {
 		return 0, false
 	}
-	return n, n > 1 && n <= api.MaxTimes
+	return int(n), true
 }
